@@ -1,0 +1,1 @@
+"""Roadsizes: letters too great for their roads."""
