@@ -3,12 +3,14 @@
 GREATEST_BODY = 10 ** 18
 
 
+def is_integer(value):
+    # A bool is an int for Python, but no integer here.
+    return isinstance(value, int) and not isinstance(value, bool)
+
+
 def is_within(value, least, greatest):
     """Whether any value is an integer from least to greatest."""
-    # A bool is an int for Python, but no integer here.
-    if isinstance(value, bool) or not isinstance(value, int):
-        return False
-    return least <= value <= greatest
+    return is_integer(value) and least <= value <= greatest
 
 
 def is_body(value):

@@ -6,7 +6,7 @@ from roadsizes import walking
 from roadsizes.errors import BadBody
 from roadsizes.walking import passed, walk
 from roadsizes.ways import Way
-from tests.helpers import not_integers, run_examples
+from tests.helpers import cutting, not_integers, run_examples, some_ways
 
 EXAMPLES = """
     >>> from roadsizes.walking import passed, walk
@@ -22,10 +22,6 @@ EXAMPLES = """
 """
 
 GREATEST = 10 ** 18
-
-
-def cutting(*sizes, head=10):
-    return [("road", head + size, "drop", "cut") for size in sizes]
 
 
 def both(way, body):
@@ -128,7 +124,8 @@ class RoadTest(unittest.TestCase):
 
     def test_places_are_positions(self):
         way = Way(10, cutting(8, 9) + [("join", 5), ("road", 13, "tell", "tell"), ("road", 12, "tell", "drop")])
-        self.assertEqual([walk(way, body) for body in (2, 3, 4)], [("comes", [2]), ("silent", (4,)), ("told", 13, (3,))])
+        self.assertEqual([walk(way, body) for body in (2, 3, 4)],
+                         [("comes", [2]), ("silent", (4,)), ("told", 13, (3,))])
         self.assertEqual([walk(way, body, sealed=True) for body in (2, 3, 4, 8, 9)],
                          [("comes", [2]), ("told", 12, (4,)), ("told", 13, (3,)), ("told", 13, (3,)), ("silent", (0,))])
 
@@ -331,20 +328,6 @@ def plain_walk(way, body, sealed):
             behind = [range(body)]
         pieces = behind
     return ("comes", [len(piece) for piece in pieces])
-
-
-def some_ways():
-    """Ways of up to three steps, of roads, joins and tunnels, some of these with tunnels inside."""
-    roads = [("road", 13, "tell", "cut"), ("road", 15, "drop", "tell"), ("road", 16, "tell", "drop"),
-             ("road", 17, "drop", "cut")]
-    inmost = Way(2, [("road", 12, "tell", "cut"), ("road", 13, "tell", "tell")])
-    inner = Way(4, [("road", 13, "tell", "cut"), ("tunnel", inmost, 2, "turn")])
-    tunnels = [("tunnel", Way(4, roads[:1]), 2, "turn"), ("tunnel", inner, 3, "turn"), ("tunnel", inner, 2, "keep"),
-               ("tunnel", Way(1, [("road", 19, "tell", "tell")]), 1, "lose")]
-    steps = roads + tunnels + [("join", 2), ("join", 4)]
-    for many in (1, 2, 3):
-        for chosen in itertools.product(steps, repeat=many):
-            yield Way(10, chosen)
 
 
 class ManyWaysTest(unittest.TestCase):
