@@ -1,7 +1,7 @@
 """Periods of chains: which chains have the same boundaries, and the one of fewest cuts.
 
-Inside this file the marks of a chain say of each place from 0 on whether it is
-0 or a boundary. They repeat with the first cut, so a few of them tell all.
+The marks of a chain say of each place from 0 on whether it is 0 or a boundary.
+They repeat with the first cut, so a few of them tell all.
 """
 
 from roadsizes.chains import Chain
@@ -34,12 +34,7 @@ def normal(chain, *, limit=None):
     # Where two periods together are not longer than the places, their greatest common divisor is a period, too.
     # So the least period of the first two parts divides the first cut, and stays one however many parts follow.
     length = _length(2 * _first_cut(chain), limit)
-    borders = _borders(_marks(chain, length))
-    cuts = []
-    while borders[length] > 0:
-        length = length - borders[length]
-        cuts.append(length)
-    return Chain(cuts)
+    return Chain(least_periods(_marks(chain, length)))
 
 
 def least_difference(first, second, *, limit=None):
@@ -50,6 +45,32 @@ def least_difference(first, second, *, limit=None):
         if one != other:
             return place
     return None
+
+
+def least_periods(marks):
+    """The least period of the marks, the least one of the marks before it, and so on, as long as there is one."""
+    found_borders = borders(marks)
+    length = len(marks)
+    found = []
+    while found_borders[length] > 0:
+        length = length - found_borders[length]
+        found.append(length)
+    return found
+
+
+def borders(marks):
+    """For each beginning of the marks, from the empty one on, the length of its border; -1 for the empty one.
+
+    The border is the longest shorter beginning with which it also ends: what it is
+    longer than its border is its least period.
+    """
+    found = [-1]
+    for mark in marks:
+        border = found[-1]
+        while border >= 0 and marks[border] != mark:
+            border = found[border]
+        found.append(border + 1)
+    return found
 
 
 def _first_cut(chain):
@@ -68,18 +89,3 @@ def _marks(chain, length):
     for many in lengths:
         marks = (marks * (many // len(marks) + 1))[:many]
     return marks
-
-
-def _borders(marks):
-    """For each beginning of the marks, from the empty one on, the length of its border; -1 for the empty one.
-
-    The border is the longest shorter beginning with which it also ends: what it is
-    longer than its border is its least period.
-    """
-    borders = [-1]
-    for mark in marks:
-        border = borders[-1]
-        while border >= 0 and marks[border] != mark:
-            border = borders[border]
-        borders.append(border + 1)
-    return borders

@@ -19,9 +19,9 @@ class Way:
     """A way, which never changes: head, steps (a tuple), depth and size."""
 
     def __init__(self, head, steps):
-        if not is_within(head, 1, GREATEST_HEAD):
+        if not is_head(head):
             raise BadHead(head)
-        if not _is_step_list(steps):
+        if not is_step_list(steps):
             raise BadSteps(steps)
         for position, step in enumerate(steps):
             if not _is_step(step, head):
@@ -64,8 +64,26 @@ class Way:
         return Way(self.head, self.steps[:position] + self.steps[position + 1:])
 
 
-def _is_step_list(value):
+def is_head(value):
+    return is_within(value, 1, GREATEST_HEAD)
+
+
+def is_step_list(value):
+    """Whether any value is a list or tuple of as many entries as a way may have steps."""
     return isinstance(value, (list, tuple)) and 1 <= len(value) <= MOST_STEPS
+
+
+def is_road(size, sealed, loose, least):
+    """Whether any values are the size of a road, from least on, and its words."""
+    return is_within(size, least, GREATEST_ROAD) and sealed in SEALED_WORDS and loose in LOOSE_WORDS
+
+
+def is_most(value):
+    return is_within(value, 1, GREATEST_MOST)
+
+
+def is_tells(value):
+    return value in TELLS_WORDS
 
 
 def _is_step(value, head):
@@ -73,27 +91,9 @@ def _is_step(value, head):
         return False
     kind = value[0]
     if kind == "road":
-        return _is_road(value, head)
+        return len(value) == 4 and is_road(value[1], value[2], value[3], head + 1)
     if kind == "join":
-        return len(value) == 2 and _is_most(value[1])
+        return len(value) == 2 and is_most(value[1])
     if kind == "tunnel":
-        return _is_tunnel(value)
+        return len(value) == 4 and isinstance(value[1], Way) and is_most(value[2]) and is_tells(value[3])
     return False
-
-
-def _is_road(step, head):
-    if len(step) != 4:
-        return False
-    _, size, sealed, loose = step
-    return is_within(size, head + 1, GREATEST_ROAD) and sealed in SEALED_WORDS and loose in LOOSE_WORDS
-
-
-def _is_tunnel(step):
-    if len(step) != 4:
-        return False
-    _, inner, most, tells = step
-    return isinstance(inner, Way) and _is_most(most) and tells in TELLS_WORDS
-
-
-def _is_most(value):
-    return is_within(value, 1, GREATEST_MOST)

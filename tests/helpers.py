@@ -1,6 +1,7 @@
 """What the tests of several files need."""
 
 import itertools
+import unittest
 
 from roadsizes import errors
 from roadsizes.chains import Chain
@@ -41,6 +42,21 @@ def some_ways():
     for many in (1, 2, 3):
         for chosen in itertools.product(steps, repeat=many):
             yield Way(10, chosen)
+
+
+class Raising(unittest.TestCase):
+
+    def assert_raises(self, kind, value, call, *given, **named):
+        """The error keeps the very value, or an equal one where the value is a number."""
+        with self.assertRaises(kind) as caught:
+            call(*given, **named)
+        self.assertIs(type(caught.exception), kind)
+        kept, = vars(caught.exception).values()
+        if type(value) is int:
+            self.assertIs(type(kept), int)
+            self.assertEqual(kept, value)
+        else:
+            self.assertIs(kept, value)
 
 
 class Dice:

@@ -3,7 +3,7 @@ import unittest
 
 from roadsizes.errors import BadHead, BadStep, BadSteps, NoStep, OtherHead, TooDeep, TooGreat
 from roadsizes.ways import Way
-from tests.helpers import ROAD, not_integers, run_examples
+from tests.helpers import ROAD, Raising, not_integers, run_examples
 
 EXAMPLES = """
     >>> from roadsizes.ways import Way
@@ -34,20 +34,6 @@ def way_of_depth(depth):
 
 def not_positions(way):
     return not_integers() + [-1, -len(way), len(way), len(way) + 1, 10 ** 59, -10 ** 59]
-
-
-class Raising(unittest.TestCase):
-
-    def assert_raises(self, kind, value, call, *given):
-        """The error keeps the very value, or an equal one where the value is a number."""
-        with self.assertRaises(kind) as caught:
-            call(*given)
-        kept, = vars(caught.exception).values()
-        if type(value) is int:
-            self.assertIs(type(kept), int)
-            self.assertEqual(kept, value)
-        else:
-            self.assertIs(kept, value)
 
 
 class ExamplesTest(unittest.TestCase):
