@@ -1,13 +1,13 @@
 """Nets: roads and ways with names, what their senders and mouths have learned, and calls that can be taken back."""
 
-from roadsizes.checks import is_body, is_within
+from roadsizes.checks import is_body
 from roadsizes.errors import (
     BadBody, BadHead, BadName, BadRoad, BadStep, BadSteps, BadTells, Held, NameTaken, NoMouth, NoStep, TooFar, TooSmall,
     UnknownName,
 )
 from roadsizes.forms import fate
 from roadsizes.mouths import ending, greatest_sent
-from roadsizes.ways import Way, is_head, is_most, is_road, is_step_list, is_tells
+from roadsizes.ways import Way, is_head, is_most, is_road, is_step_list, is_tells, is_tunnel_at
 
 LETTERS = "abcdefghijklmnopqrstuvwxyz"
 LONGEST_NAME = 8
@@ -69,14 +69,14 @@ class Net:
     def set_tells(self, name, position, tells):
         """Gives the tunnel at a position of a way another word."""
         head, steps = self.plan(name)
-        if not _is_tunnel_at(steps, position):
+        if not is_tunnel_at(steps, position):
             raise NoStep(position)
         if not is_tells(tells):
             raise BadTells(tells)
-        _, inner, most, before = steps[position]
+        _, inner, most, _ = steps[position]
         changed = steps[:position] + (("tunnel", inner, most, tells),) + steps[position + 1:]
         facts = [(("way", name), (head, changed))]
-        if before == "keep" and tells != "keep":
+        if tells != "keep":
             facts.append((("mouth", name, position), None))
         self._call(facts)
 
@@ -91,7 +91,7 @@ class Net:
         return Way(head, self._unnamed(steps))
 
     def plan(self, name):
-        """The tuple (head, steps) of a way, as it was added: with the names of its roads and inner ways."""
+        """The tuple (head, steps) of a way, with the names of its roads and inner ways in the steps."""
         self._check_known("way", name)
         return self._facts["way", name]
 
@@ -180,7 +180,7 @@ class Net:
 
     def _check_mouth(self, name, position):
         _, steps = self.plan(name)
-        if not _is_tunnel_at(steps, position) or steps[position][3] != "keep":
+        if not is_tunnel_at(steps, position) or steps[position][3] != "keep":
             raise NoMouth(position)
 
     def _is_step(self, value, head):
@@ -242,8 +242,3 @@ def _is_name(value):
     if not isinstance(value, str) or not 1 <= len(value) <= LONGEST_NAME:
         return False
     return all([letter in LETTERS for letter in value])
-
-
-def _is_tunnel_at(steps, position):
-    """Whether any value is the position of a tunnel among these steps."""
-    return is_within(position, 0, len(steps) - 1) and steps[position][0] == "tunnel"

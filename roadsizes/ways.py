@@ -86,6 +86,11 @@ def is_tells(value):
     return value in TELLS_WORDS
 
 
+def is_tunnel_at(steps, position):
+    """Whether any value is the position of a tunnel among these steps."""
+    return is_within(position, 0, len(steps) - 1) and steps[position][0] == "tunnel"
+
+
 def _is_step(value, head):
     if not isinstance(value, tuple) or len(value) == 0:
         return False

@@ -71,12 +71,12 @@ class PlainNet:
 def plain_hopeless(plain, name, bodies):
     """The first of the bodies that is lost again and again without anything told, or None."""
     for body in bodies:
-        if plain.may_send(name, body) and _is_hopeless(plain.copy(), name, body):
+        if plain.may_send(name, body) and is_hopeless(plain.copy(), name, body):
             return body
     return None
 
 
-def _is_hopeless(plain, name, body):
+def is_hopeless(plain, name, body):
     while True:
         before = plain.learned()
         if plain.send(name, body)[0] != "silent":

@@ -235,6 +235,17 @@ class MouthTest(NetTest):
         self.assertEqual(all_told(net, "top", 9, 3), [("silent", (1, 0, 0))] * 3)
         self.assertEqual([net.kept("top", 1), net.bound("top")], [None, None])
 
+    def test_tunnels_that_turn_or_lose_keep_nothing(self):
+        for words in itertools.product(("turn", "lose"), repeat=2):
+            net = two_deep(*words)
+            same = net.fork()
+            net.send("top", 9)
+            net.forget("top")
+            self.assertEqual(net, same)
+            for name, at in (("top", 1), ("mid", 0)):
+                net.set_tells(name, at, "keep")
+                self.assertIsNone(net.kept(name, at))
+
     def test_roads_that_drop(self):
         for words in itertools.product(("turn", "keep", "lose"), repeat=2):
             net = two_deep(*words, sealed="drop")
