@@ -87,7 +87,7 @@ class Reader:
         inmost = len(self._begun) - 1
         if spaces != level * len(INDENTATION) or level > inmost:
             return None
-        # A way without a step is not over, and the text is one without spaces ahead of its head.
+        # A way without a step is not over yet.
         return level if level == inmost or self.is_whole() else None
 
     def _takes_head(self, words):
